@@ -92,7 +92,7 @@ func TestEscapedRunes(t *testing.T) {
 			faults(t, text, api.ErrForm, 2)
 		default:
 			reads(t, text, span(r, r))
-			reads(t, "["+"\\"+string(r)+"-\\"+string(r)+"]", span(r, r))
+			reads(t, "[\\"+string(r)+"-\\"+string(r)+"]", span(r, r))
 		}
 	}
 	reads(t, `[\日\🙂]`, only(26085, 128578)...)
@@ -271,19 +271,17 @@ var world = []rune{'`', 'a', 'b', 'c', 'd'}
 const whole = 1<<5 - 1
 
 // leaves are parts without sets in them.
-var leaves = []tree{{"a", 2}, {"b-c", 12}, {`\u{60}-\d`, -1}, {`\u{60}-b`, 7}, {"d ", 16}}
+var leaves = []tree{{"a", 2}, {"b-c", 12}, {`\u{60}-b`, 7}, {"d ", 16}}
 
+// grown is all sets of up to three parts (the third one of a few), with inner ones among them.
 func grown(inner []tree) []tree {
-	type step func(has int) int
 	type part struct {
 		text string
-		step step
+		step func(has int) int
 	}
 	var parts []part
 	for _, x := range leaves {
-		if x.has >= 0 {
-			parts = append(parts, part{x.text, func(has int) int { return has | x.has }})
-		}
+		parts = append(parts, part{x.text, func(has int) int { return has | x.has }})
 	}
 	for i, x := range inner {
 		parts = append(parts,
@@ -399,7 +397,7 @@ func TestHowDeepSetsMayBe(t *testing.T) {
 	faults(t, deep(20, "a& [b]"), api.ErrMuch, 23)
 	faults(t, deep(20, "a-[b]"), api.ErrMuch, 22)
 	faults(t, deep(20, "-[:digit:]"), api.ErrMuch, 21)
-	faults(t, deep(20, "a-b"+",[c]"), api.ErrForm, 23)
+	faults(t, deep(20, "a-b,[c]"), api.ErrForm, 23)
 	faults(t, deep(20, "a&b"), api.ErrForm, 22)
 	faults(t, " "+strings.Repeat("[", 21), api.ErrMuch, 21)
 	faults(t, " "+strings.Repeat("[", 20), api.ErrForm, 21)
@@ -408,7 +406,7 @@ func TestHowDeepSetsMayBe(t *testing.T) {
 	reads(t, "["+strings.Repeat("[[a]]", 700)+"]", only('a')...)
 }
 
-// dots writes n single runes, each two more than the one ahead, and each three runes wide in the text: one and two blanks.
+// dots writes n runes, each two more than the one ahead, and each with two blanks behind it.
 func dots(n int, first rune) string {
 	var out strings.Builder
 	for k := range n {
@@ -451,13 +449,13 @@ func TestTooManySpansOfSets(t *testing.T) {
 	}
 	faults(t, "[[:any:]-"+many+" ]", api.ErrMany, 9+602)
 	faults(t, "[a"+many, api.ErrMany, 2+602)
-	// 150 wide spans meet the 151 gaps of others that lie across their edges.
-	wide, gaps := "", ""
+	// Each wide span is met by two others, which lie across its edges.
+	wide, across := "", ""
 	for k := range rune(150) {
 		wide += string(1000+10*k) + "-" + string(1006+10*k)
-		gaps += string(1004+10*k) + "-" + string(1012+10*k)
+		across += string(1004+10*k) + "-" + string(1012+10*k)
 	}
-	faults(t, "["+wide+"&["+gaps+"] a]", api.ErrMany, 1+450+1+452)
+	faults(t, "["+wide+"&["+across+"] a]", api.ErrMany, 1+450+1+452)
 }
 
 // whatComes is all that a caller sees of a text.
