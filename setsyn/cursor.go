@@ -17,108 +17,119 @@ const (
 // end stands behind the last rune of a text: a text's own runes are never below 0.
 const end rune = -1
 
-// cursor is a place in a text. Its methods throw an api.Fault where the text can't go on.
-type cursor struct {
-	text []rune
-	at   int
+// Cursor is a place in a text, for whoever reads something of it, sets alone or more. Where the text can't go on its methods throw an api.Fault, which the reader's edge recovers.
+type Cursor struct {
+	Text []rune
+	At   int
 }
 
-func fail(err api.Errno, at int) {
+// Fail throws what is wrong, and where.
+func (c *Cursor) Fail(err api.Errno, at int) {
 	panic(api.Fault{Err: err, At: at})
 }
 
-// ahead is the rune that stands n places behind the cursor's own one.
-func (c *cursor) ahead(n int) rune {
-	if n >= len(c.text)-c.at {
+// Ahead is the rune that stands n places behind the cursor's own one; below 0, if there is none.
+func (c *Cursor) Ahead(n int) rune {
+	if n >= len(c.Text)-c.At {
 		return end
 	}
-	return c.text[c.at+n]
+	return c.Text[c.At+n]
 }
 
-func (c *cursor) is(r rune) bool {
-	return c.ahead(0) == r
+// Done is whether nothing stands at the cursor: it is behind the text's last rune.
+func (c *Cursor) Done() bool {
+	return c.Ahead(0) == end
 }
 
-// among is whether what stands at the cursor is one of those runes.
-func (c *cursor) among(those string) bool {
-	return strings.ContainsRune(those, c.ahead(0))
+// Is is whether r stands at the cursor.
+func (c *Cursor) Is(r rune) bool {
+	return c.Ahead(0) == r
 }
 
-func (c *cursor) take() rune {
-	r := c.ahead(0)
-	c.at++
+// Among is whether what stands at the cursor is one of those runes.
+func (c *Cursor) Among(those string) bool {
+	return strings.ContainsRune(those, c.Ahead(0))
+}
+
+// Take goes on behind the rune at the cursor, and answers it.
+func (c *Cursor) Take() rune {
+	r := c.Ahead(0)
+	c.At++
 	return r
 }
 
-// skip goes on behind r, and tells whether it stood there.
-func (c *cursor) skip(r rune) bool {
-	if !c.is(r) {
+// Skip goes on behind r, and tells whether it stood there.
+func (c *Cursor) Skip(r rune) bool {
+	if !c.Is(r) {
 		return false
 	}
-	c.at++
+	c.At++
 	return true
 }
 
-func (c *cursor) need(r rune) {
-	if !c.skip(r) {
-		fail(api.ErrForm, c.at)
+// Need goes on behind r, which must stand there.
+func (c *Cursor) Need(r rune) {
+	if !c.Skip(r) {
+		c.Fail(api.ErrForm, c.At)
 	}
 }
 
-func (c *cursor) blanks() {
-	for c.among(blankRunes) {
-		c.at++
+// Blanks goes on behind all blanks.
+func (c *Cursor) Blanks() {
+	for c.Among(blankRunes) {
+		c.At++
 	}
 }
 
-// ordinary is whether a rune stands at the cursor that is not special.
-func (c *cursor) ordinary() bool {
-	return !c.is(end) && !c.among(specialRunes)
+// Ordinary is whether a rune stands at the cursor that is not special.
+func (c *Cursor) Ordinary() bool {
+	return !c.Done() && !c.Among(specialRunes)
 }
 
-func (c *cursor) character() rune {
-	if c.skip('\\') {
+// Character reads a character, whether its rune is right or not.
+func (c *Cursor) Character() rune {
+	if c.Skip('\\') {
 		return c.escaped()
 	}
-	if !c.ordinary() {
-		fail(api.ErrForm, c.at)
+	if !c.Ordinary() {
+		c.Fail(api.ErrForm, c.At)
 	}
-	return c.take()
+	return c.Take()
 }
 
 // escaped is the character whose `\` has been read.
-func (c *cursor) escaped() rune {
+func (c *Cursor) escaped() rune {
 	switch {
-	case c.is('u'):
+	case c.Is('u'):
 		return c.numbered()
-	case c.skip('n'):
+	case c.Skip('n'):
 		return '\n'
-	case c.skip('t'):
+	case c.Skip('t'):
 		return '\t'
-	case c.is(end) || alphanumeric(c.ahead(0)):
-		fail(api.ErrForm, c.at)
+	case c.Done() || alphanumeric(c.Ahead(0)):
+		c.Fail(api.ErrForm, c.At)
 	}
-	return c.take()
+	return c.Take()
 }
 
 // numbered is the character that is told by its number; the cursor is at `u`.
-func (c *cursor) numbered() rune {
-	begin := c.at
-	c.need('u')
-	c.need('{')
-	first := c.at
-	for c.among(hexDigits) {
-		c.at++
+func (c *Cursor) numbered() rune {
+	begin := c.At
+	c.Need('u')
+	c.Need('{')
+	first := c.At
+	for c.Among(hexDigits) {
+		c.At++
 	}
-	digits := string(c.text[first:c.at])
+	digits := string(c.Text[first:c.At])
 	if len(digits) < 1 || len(digits) > maxDigits {
-		fail(api.ErrForm, first)
+		c.Fail(api.ErrForm, first)
 	}
-	c.need('}')
+	c.Need('}')
 	// It can't fail: there are few enough digits, and nothing else.
 	n, _ := strconv.ParseInt(digits, 16, 32)
 	if n > api.MaxRune {
-		fail(api.ErrRange, begin)
+		c.Fail(api.ErrRange, begin)
 	}
 	return rune(n)
 }

@@ -25,29 +25,34 @@ func one(r rune) api.Span {
 }
 
 // whole is the set that is all of the text, but for blanks around it.
-func (c *cursor) whole() []api.Span {
-	c.blanks()
-	s := c.set(1)
-	c.blanks()
-	if !c.is(end) {
-		fail(api.ErrForm, c.at)
+func (c *Cursor) whole() []api.Span {
+	c.Blanks()
+	s := c.Set()
+	c.Blanks()
+	if !c.Done() {
+		c.Fail(api.ErrForm, c.At)
 	}
 	return s
 }
 
+// Set reads a set.
+func (c *Cursor) Set() []api.Span {
+	return c.set(1)
+}
+
 // set reads a set that is so deep.
-func (c *cursor) set(deep int) []api.Span {
-	begin := c.at
-	c.need('[')
+func (c *Cursor) set(deep int) []api.Span {
+	begin := c.At
+	c.Need('[')
 	if deep > api.MaxNest {
-		fail(api.ErrMuch, begin)
+		c.Fail(api.ErrMuch, begin)
 	}
-	not := c.skip('^')
+	not := c.Skip('^')
 	var s []api.Span
-	c.blanks()
-	for !c.skip(']') {
+	c.Blanks()
+	for !c.Skip(']') {
 		s = c.part(s, deep)
-		c.blanks()
+		c.Blanks()
 	}
 	if not {
 		s = c.made(sets.Not(s))
@@ -56,58 +61,58 @@ func (c *cursor) set(deep int) []api.Span {
 }
 
 // part is what becomes of s by the next part.
-func (c *cursor) part(s []api.Span, deep int) []api.Span {
+func (c *Cursor) part(s []api.Span, deep int) []api.Span {
 	switch {
-	case c.skip('&'):
-		c.blanks()
+	case c.Skip('&'):
+		c.Blanks()
 		return c.made(sets.Meet(s, c.set(deep+1)))
-	case c.skip('-'):
-		c.blanks()
+	case c.Skip('-'):
+		c.Blanks()
 		return c.made(sets.Minus(s, c.set(deep+1)))
-	case c.is('[') && c.ahead(1) == ':':
+	case c.Is('[') && c.Ahead(1) == ':':
 		return c.made(sets.Union(s, c.class()))
-	case c.is('['):
+	case c.Is('['):
 		return c.made(sets.Union(s, c.set(deep+1)))
 	}
 	return c.made(sets.Union(s, []api.Span{c.span()}))
 }
 
 // made is s, unless it could not be made of the part that ends here.
-func (c *cursor) made(s []api.Span, err api.Errno) []api.Span {
+func (c *Cursor) made(s []api.Span, err api.Errno) []api.Span {
 	if err != api.OK {
-		fail(err, c.at)
+		c.Fail(err, c.At)
 	}
 	return s
 }
 
-func (c *cursor) class() []api.Span {
-	c.need('[')
-	c.need(':')
-	begin := c.at
-	for c.ordinary() {
-		c.at++
+func (c *Cursor) class() []api.Span {
+	c.Need('[')
+	c.Need(':')
+	begin := c.At
+	for c.Ordinary() {
+		c.At++
 	}
-	s, ok := classes()[string(c.text[begin:c.at])]
+	s, ok := classes()[string(c.Text[begin:c.At])]
 	if !ok {
-		fail(api.ErrName, begin)
+		c.Fail(api.ErrName, begin)
 	}
-	c.need(':')
-	c.need(']')
+	c.Need(':')
+	c.Need(']')
 	return s
 }
 
 // span is one character, or two with `-` between.
-func (c *cursor) span() api.Span {
-	low := c.character()
+func (c *Cursor) span() api.Span {
+	low := c.Character()
 	// A `-` with `[` at once behind it takes a set away, and is no part of this one.
-	if !c.is('-') || c.ahead(1) == '[' {
+	if !c.Is('-') || c.Ahead(1) == '[' {
 		return one(low)
 	}
-	c.need('-')
-	begin := c.at
-	high := c.character()
+	c.Need('-')
+	begin := c.At
+	high := c.Character()
 	if high < low {
-		fail(api.ErrRange, begin)
+		c.Fail(api.ErrRange, begin)
 	}
 	return api.Span{Low: low, High: high}
 }
