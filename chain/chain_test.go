@@ -730,6 +730,31 @@ func TestCrowdedInAnotherWay(t *testing.T) {
 	}
 }
 
+// TestReady: a script that plays over one text after the other makes of each what it makes of it alone, whatever came before.
+func TestReady(t *testing.T) {
+	m := maker{dice()}
+	for range 500 {
+		s := m.script()
+		play, f := Ready(s)
+		if f != (api.Fault{}) {
+			t.Fatalf("Ready(%v): %v", s, f)
+		}
+		for range 6 {
+			text := string(m.word(0, 20))
+			want, g := anotherWay(s, text)
+			if got, f := play([]rune(text)); string(got) != want || f != g {
+				t.Errorf("%v, %q: %q, %v, not %q, %v", s, text, string(got), f, want, g)
+			}
+			if got, f := play([]rune{'a', 55296}); len(got) != 0 || f != fault(api.ErrRange, 0) {
+				t.Errorf("%v: %q, %v", s, string(got), f)
+			}
+		}
+	}
+	if play, f := Ready(script(of(), by("foo"))); play != nil || f != fault(api.ErrName, 1) {
+		t.Errorf("of a script that is wrong: %v", f)
+	}
+}
+
 // Z2
 
 // roomy is a script and a text whose lists all have spare room, and there something that is wrong, or would match.

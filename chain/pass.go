@@ -51,8 +51,9 @@ func each(change func(r rune) rune) pass {
 }
 
 func rules(l []api.Rule) pass {
+	play := vm.Ready(l)
 	return func(text []rune) ([]rune, api.Errno) {
-		out, f := vm.Play(l, text)
+		out, f := play(text)
 		return out.Text, f.Err
 	}
 }

@@ -13,35 +13,44 @@ import (
 // none stands where no rule matched.
 const none = -1
 
+// program is rules that play over any text. It keeps apart two faults that Compile tells of them, for what is wrong with a text is told between these.
+type program struct {
+	rules []api.Rule
+	heads []api.Head
+	wrong api.Fault
+	many  api.Fault
+}
+
 // machine is a text with a gap, and rules that play over it: the text's cursor is theirs, so that what a rule puts in a place moves no other rune.
 type machine struct {
 	*gap.Text
-	rules []api.Rule
-	heads []api.Head
+	program
 }
 
-// ready is a machine ahead of its first step.
-func ready(l []api.Rule, text []rune) (*machine, api.Fault) {
-	heads, f := check(l, text)
-	if f.Err != api.OK {
-		return nil, f
+func compiled(l []api.Rule) program {
+	p := program{rules: l, wrong: run.Wrong(l)}
+	if p.wrong.Err == api.OK {
+		p.heads, p.many = compile.Compile(l)
+	}
+	return p
+}
+
+// on is a machine ahead of its first step over that text.
+func (p program) on(text []rune) (*machine, api.Fault) {
+	if p.wrong.Err != api.OK {
+		return nil, p.wrong
+	}
+	if err := match.Text(text); err != api.OK {
+		return nil, api.Fault{Err: err}
+	}
+	if p.many.Err != api.OK {
+		return nil, p.many
 	}
 	t, err := gap.New(text...)
 	if err != api.OK {
 		return nil, api.Fault{Err: err}
 	}
-	return &machine{Text: t, rules: l, heads: heads}, api.Fault{}
-}
-
-// check asks run.Wrong although Compile would: what is wrong with the text is told between that and too many heads.
-func check(l []api.Rule, text []rune) ([]api.Head, api.Fault) {
-	if f := run.Wrong(l); f.Err != api.OK {
-		return nil, f
-	}
-	if err := match.Text(text); err != api.OK {
-		return nil, api.Fault{Err: err}
-	}
-	return compile.Compile(l)
+	return &machine{Text: t, program: p}, api.Fault{}
 }
 
 // play takes steps until the cursor is at the end, and tells each of them.

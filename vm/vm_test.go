@@ -505,13 +505,43 @@ var _ match.View = &machine{}
 // TestOnlyWhatMayBegin: a machine whose heads leave a rule out does without it.
 func TestOnlyWhatMayBegin(t *testing.T) {
 	l := rules(plain("a", "x"), plain("b", "y"))
-	m, f := ready(l, []rune("ab"))
+	m, f := compiled(l).on([]rune("ab"))
 	if f != (api.Fault{}) {
 		t.Fatal(f)
 	}
 	m.heads, _ = compile.Compile(l[:1])
 	if err := m.play(func(api.Shot) {}); err != api.OK || string(m.Runes()) != "xb" {
 		t.Errorf("%d, %q", err, string(m.Runes()))
+	}
+}
+
+// TestReady: rules that play over one text after the other make of each what they make of it alone, whatever came before, and what was answered stays.
+func TestReady(t *testing.T) {
+	texts := [][]rune{[]rune("aab"), nil, {55296}, []rune("b"), []rune("cc"), make([]rune, 4001), []rune(letters(4000)), {}, {-1}, []rune("ab"), []rune("aab")}
+	for _, l := range [][]api.Rule{
+		nil,
+		rules(rule("", "a", "b", "xy"), plain("b", "")),
+		rules(starting(plain("a", "x")), ending(cursor(plain("b", "xx"), 0))),
+		rules(plain("a", "aa"), cursor(plain("c", "c"), 0)),
+		rules(plain("a", "b"), api.Rule{}),
+		scattered(1, 200),
+		many(201),
+	} {
+		play := Ready(l)
+		var told []api.Out
+		for _, text := range texts {
+			got, f := play(text)
+			want, g := Play(l, text)
+			if !reflect.DeepEqual(got, want) || f != g {
+				t.Errorf("%d rules, %d runes: %v, %v, not %v, %v", len(l), len(text), got, f, want, g)
+			}
+			told = append(told, got)
+		}
+		for k, text := range texts {
+			if want, _ := Play(l, text); !reflect.DeepEqual(told[k], want) {
+				t.Errorf("%d rules, %d runes: it has become %v", len(l), len(text), told[k])
+			}
+		}
 	}
 }
 
